@@ -1,0 +1,1 @@
+"""Rounds of mixed streets, and prices that show them least."""

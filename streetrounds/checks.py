@@ -1,10 +1,11 @@
-"""Which numbers, corners, streets and towns can be."""
+"""Which numbers, corners, streets, towns and times can be."""
 
-from streetrounds.errors import BadTown, NoCorner
+from streetrounds.errors import BadTimes, BadTown, NoCorner
 
 MOST_CORNERS = 9
 MOST_STREETS = 16
 MOST_LONG = 99
+MOST_OFTEN = 99
 
 
 def is_whole(thing, low, high):
@@ -48,3 +49,23 @@ def check_corner(thing, corners):
     """Refuse what is none of so many corners by NoCorner."""
     if not is_corner(thing, corners):
         raise NoCorner("no corner of this town")
+
+
+def is_pair_of_times(thing, one_way):
+    """Tell whether thing is how often a street can be gone (forth, back)."""
+    if not isinstance(thing, tuple) or len(thing) != 2:
+        return False
+    forth, back = thing
+    most_back = 0 if one_way == 1 else MOST_OFTEN
+    return is_whole(forth, 0, MOST_OFTEN) and is_whole(back, 0, most_back)
+
+
+def check_times(thing, streets):
+    """Refuse what are no times of these streets by BadTimes, with the number of the first."""
+    if not isinstance(thing, tuple):
+        raise BadTimes(0)
+    for number, (_, _, _, one_way) in enumerate(streets):
+        if number >= len(thing) or not is_pair_of_times(thing[number], one_way):
+            raise BadTimes(number)
+    if len(thing) > len(streets):
+        raise BadTimes(len(streets))

@@ -15,14 +15,19 @@ def least(town):
     """Tell how long a least round of the town is, and its times."""
     check_town(town)
     corners, streets = town
-    if len(lots(corners, all_hops(streets))) > 1:
-        raise NoRound("not each corner can be come to from each")
+    check_round(corners, streets)
     check_two_way(streets)
     if any(street[3] == 1 for street in streets):
         times = mixed_times(corners, streets)
     else:
         times = two_way_times(corners, streets)
     return length(streets, times), times
+
+
+def check_round(corners, streets):
+    """Refuse streets that leave so many corners more than one part by NoRound."""
+    if len(lots(corners, all_hops(streets))) > 1:
+        raise NoRound("not each corner can be come to from each")
 
 
 def check_two_way(streets):

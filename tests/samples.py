@@ -2,6 +2,8 @@
 
 import random
 
+from slow import hops_from
+
 # A ring of mixed streets, which can be gone around one way alone.
 RING = (4, ((0, 1, 5, 0), (1, 2, 7, 1), (2, 3, 1, 0), (3, 0, 99, 1)))
 
@@ -157,3 +159,53 @@ def bound_towns():
 
 # What is no corner of RING.
 NO_CORNERS = (-1, 4, 9, 10 ** 30, True, False, None, 1.0, 0.0, "", "0", b"0", (), (0,), [], [0], {})
+
+
+def no_numbers(most):
+    """Tell things that are none of the numbers from 0 to most."""
+    return [-1, most + 1, most + 2, -10 ** 30, 10 ** 30, True, False, None, 0.0, 1.0, "", "0", "1", [], [1], (), (1,)]
+
+
+def no_times(town):
+    """Tell pairs: what are no times of the town, and the number that BadTimes must have."""
+    streets = town[1]
+    many = len(streets)
+    good = ((1, 0),) * many
+    things = [None, True, False, 0, 1, 2.5, "", "10", [], list(good), {}, [[1, 0]] * many]
+    found = [(thing, 0) for thing in things]
+    found += [(good[:place], place) for place in range(many)]
+    found += [(good + more, many) for more in (((1, 0),), (None,), ((1, 0), (1, 0)), ((0, 0),), ((),))]
+    for place in range(many):
+        for thing in no_pairs_of_times(streets[place][3]):
+            found.append(((*good[:place], thing, *good[place + 1:]), place))
+    # Of several that can't be, the first; one more or too few tells nothing then.
+    found += [((None,) * many, 0), ((*good[:1], None, *good[2:], (1, 0)), 1), ((*good[:1], None), 1)]
+    return found
+
+
+def no_pairs_of_times(one_way):
+    things = [None, True, 1, 10, 1.5, "", "10", (), (1,), (1, 0, 0), [1, 0], [], {1: 0, 0: 1}, ((1, 0),)]
+    things += [(thing, 0) for thing in no_numbers(99)] + [(1, thing) for thing in no_numbers(99)]
+    if one_way == 1:
+        things += [(1, 1), (0, 1), (1, 99)]
+    return things
+
+
+def strolls(seed, towns, longest):
+    """Tell (town, steps) of rounds by chance that may leave streets out, in towns of one part."""
+    chance = random.Random(seed)
+    found = []
+    for town in towns:
+        start = chance.randrange(town[0])
+        found.append((town, stroll(chance, town, start, chance.randint(0, longest))))
+    return found
+
+
+def stroll(chance, town, start, many):
+    """Tell so many steps from start by chance, and then steps back to it."""
+    corner = start
+    steps = []
+    while (len(steps) < many or corner != start) and hops_from(town, corner):
+        step, corner, _ = chance.choice(hops_from(town, corner))
+        steps.append(step)
+    return tuple(steps)

@@ -67,7 +67,7 @@ def bound_names(tree):
             found.add(node.arg)
         elif isinstance(node, ast.Name) and isinstance(node.ctx, ast.Store):
             found.add(node.id)
-        elif isinstance(node, ast.alias):
+        elif isinstance(node, (ast.alias, ast.ExceptHandler)):
             found.add(node.name)
     return found
 

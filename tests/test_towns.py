@@ -5,9 +5,13 @@ import unittest
 from samples import RING, bound_towns, no_towns, ring_towns, some_towns
 from slow import slow_bridges, slow_parts
 
+from streetrounds.desks import Desk
 from streetrounds.errors import BadTown, NoRound, StreetError
+from streetrounds.notes import written
+from streetrounds.pricing import priced, shows
 from streetrounds.rounds import least
 from streetrounds.towns import bridges, parts
+from streetrounds.walks import fault, walk
 from streetrounds.ways import far, way
 
 ASKED = {
@@ -17,6 +21,15 @@ ASKED = {
     "way": lambda town: way(town, 0, 0),
     "way, behind what is no corner either": lambda town: way(town, None, -1),
     "least": least,
+    "walk": lambda town: walk(town, ((1, 0),) * 4, 0),
+    "walk, behind what are no times and no corner either": lambda town: walk(town, None, None),
+    "fault": lambda town: fault(town, ()),
+    "fault, behind what is no step either": lambda town: fault(town, [None]),
+    "priced": priced,
+    "shows": lambda town: shows(town, ((1, 0),) * 4, (0,) * 4),
+    "shows, behind what are no times and no prices either": lambda town: shows(town, None, None),
+    "Desk": Desk,
+    "written": written,
 }
 
 
